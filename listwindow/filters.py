@@ -69,7 +69,7 @@ def within(one, other):
     if any([_lets_none(bounds) for bounds in one]):
         return True
     # What meets the other bounds without being narrowed stands between them.
-    return met(one, other) == list(one)
+    return met(one, other) == one
 
 
 def clash(several):

@@ -1,6 +1,6 @@
 """Shapes: what of a table's cells decides its orders."""
 
-from listwindow.checks import check_column, check_columns
+from listwindow.checks import check_columns
 from listwindow.choices import first_choice
 from listwindow.errors import InvalidNumber
 from listwindow.sortings import order_of
@@ -8,7 +8,6 @@ from listwindow.tables import Table
 
 
 def ranks(table, column):
-    check_column(table.width, column)
     cells = table.column(column)
     rank_of = {cell: rank for rank, cell in enumerate(sorted(set(cells)))}
     return [rank_of[cell] for cell in cells]

@@ -1,6 +1,6 @@
 """Sortings: the keys that clicks on heads make, and the orders that they show."""
 
-from listwindow.checks import are_keys_of, check_cells, check_columns, check_keys, check_sorting, check_width
+from listwindow.checks import are_keys_of, check_columns, check_keys, check_sorting, check_width
 from listwindow.choices import chosen
 
 
@@ -79,7 +79,6 @@ def _parted(rows, column):
 
 def place_in(table, sorting, cells):
     check_sorting(table.width, sorting)
-    check_cells(table.width, cells)
     return order_of(table.with_row(cells), sorting).index(len(table))
 
 

@@ -77,6 +77,7 @@ CALLS = {
         ("repeated", "form times", (FORM, 5)),
         ("number_made", "width form", (2, FORM)),
         ("forms_between", "width sorting goal", (2, [(0, 1)], [(1, 1), (0, 1)])),
+        ("forms_between", "width sorting goal", (2, [], [(1, 1), (0, 1)])),
     ],
     "sortways": [
         ("distance", "width sorting goal", (2, [(0, 1)], [(1, -1), (0, 1)])),

@@ -114,6 +114,11 @@ class TableTest(unittest.TestCase):
         self.assertEqual(error_of(lambda: example_table() + Table(3, [])), (InvalidNumber, 3))
         self.assertEqual(error_of(lambda: Table(3, []) + example_table()), (InvalidNumber, 2))
 
+    def test_sum_with_something_else(self):
+        for other in [[[1, 2]], 3, None]:
+            with self.assertRaises(TypeError):
+                example_table() + other
+
     def test_equality(self):
         table = example_table()
         self.assertTrue(table == example_table())
