@@ -1,7 +1,12 @@
 """What more than one module refuses. The lists in errors are copies, so that they belong to the error alone."""
 
-from listwindow.errors import InvalidColumn, InvalidFilters, InvalidNumber, InvalidOrder
-from listwindow.errors import InvalidRow, InvalidRows, InvalidSorting, InvalidValue
+from listwindow.errors import InvalidColumn, InvalidDeed, InvalidFilters, InvalidMarks, InvalidNumber, InvalidOrder
+from listwindow.errors import InvalidPosition, InvalidRow, InvalidRows, InvalidSorting, InvalidValue
+
+
+def check_number(number):
+    if number < 0:
+        raise InvalidNumber(number)
 
 
 def check_width(width):
@@ -42,7 +47,25 @@ def check_rows(number, rows):
 
 def check_different_rows(number, rows):
     check_rows(number, rows)
-    if len(set(rows)) < len(rows):
+    check_there(rows)
+
+
+def check_there(there):
+    """Rows that are there may be any ones, but none of them twice."""
+    if len(set(there)) < len(there):
+        raise InvalidRows(list(there))
+
+
+def check_there_of(number, there):
+    check_there(there)
+    if not all([0 <= row < number for row in there]):
+        raise InvalidRows(list(there))
+
+
+def check_shown(shown, rows):
+    """Rows are picked out of the shown ones, none of them twice."""
+    check_there(rows)
+    if not all([row in shown for row in rows]):
         raise InvalidRows(list(rows))
 
 
@@ -84,3 +107,46 @@ def check_filters(width, filters):
 def check_folds(width, folds):
     if len(folds) != width:
         raise InvalidValue(len(folds))
+
+
+def check_different_values(values):
+    for at, value in enumerate(values):
+        if value in values[:at]:
+            raise InvalidValue(value)
+
+
+def check_marks(marks):
+    if any([row >= later for row, later in zip(marks, marks[1:])]):
+        raise InvalidMarks(list(marks))
+
+
+def check_marks_there(there, marks):
+    check_marks(marks)
+    if not all([row in there for row in marks]):
+        raise InvalidMarks(list(marks))
+
+
+def check_marks_of(number, marks):
+    check_marks(marks)
+    if not all([0 <= row < number for row in marks]):
+        raise InvalidMarks(list(marks))
+
+
+def check_words(words, deeds):
+    for deed in deeds:
+        if deed[0] not in words:
+            raise InvalidDeed(deed)
+
+
+def check_clicks(number, clicks):
+    """Clicks and range clicks on so many rows."""
+    for click in clicks:
+        if len(click) != 2 or click[0] not in ("click", "range"):
+            raise InvalidDeed(click)
+    for _, position in clicks:
+        check_position(number, position)
+
+
+def check_position(number, position):
+    if not 0 <= position < number:
+        raise InvalidPosition(position)

@@ -1,7 +1,6 @@
 """Views: a table with a sorting, filters and folds, and the lines that it shows."""
 
-from listwindow.checks import check_deed_columns, check_filters, check_folds, check_sorting
-from listwindow.errors import InvalidValue
+from listwindow.checks import check_deed_columns, check_different_values, check_filters, check_folds, check_sorting
 from listwindow.filters import let_rows, with_only
 from listwindow.sortings import clicked_on, order_of
 
@@ -14,7 +13,7 @@ class View:
         check_filters(table.width, filters)
         check_folds(table.width, folds)
         for folded in folds:
-            _check_different(folded)
+            check_different_values(folded)
         self._table = table
         self._sorting = list(sorting)
         self._filters = list(filters)
@@ -76,12 +75,6 @@ class View:
         for deed in deeds:
             view = _behind(view, deed)
         return view
-
-
-def _check_different(folded):
-    for at, value in enumerate(folded):
-        if value in folded[:at]:
-            raise InvalidValue(value)
 
 
 def _behind(view, deed):

@@ -156,3 +156,74 @@ def error_of(call, *arguments, **named):
     except WindowError as error:
         return (error.__class__, error.value)
     return None
+
+
+def within_bounds(one, other):
+    """True if each integer that the one bounds let, which let some, is let by the other."""
+    (low, high), (least, greatest) = one, other
+    return (least is None or low is not None and low >= least) and (
+        greatest is None or high is not None and high <= greatest)
+
+
+def all_lists(deeds, most):
+    """All lists of some deeds up to a length, by length, then by the sequence of the deeds."""
+    return [list(told) for number in range(most + 1) for told in itertools.product(deeds, repeat=number)]
+
+
+def first_list(start, deeds, behind, is_wanted, most=99):
+    """The first list of deeds, by length, then by the sequence of the deeds, that leads from a state to a wanted one:
+    all lists are tried, but that of those that lead to one state only the first goes on. None if there is none."""
+    known, edge = {start}, [(start, [])]
+    for _ in range(most + 1):
+        for state, told in edge:
+            if is_wanted(state):
+                return told
+        further = []
+        for state, told in edge:
+            for deed in deeds:
+                there = behind(state, deed)
+                if there not in known:
+                    known.add(there)
+                    further.append((there, told + [deed]))
+        edge = further
+    return None
+
+
+def mark_all(there, marks, anchor, clicks):
+    """The marks and the anchor behind clicks, as [14] tells them."""
+    marks = set(marks)
+    for word, position in clicks:
+        row = there[position]
+        if word == "click" or anchor not in there:
+            marks ^= {row}
+            anchor = row
+            continue
+        here = there.index(anchor)
+        for between in there[min(here, position):max(here, position) + 1]:
+            marks = marks | {between} if anchor in marks else marks - {between}
+    return sorted(marks), anchor
+
+
+def row_clicks(number):
+    """All clicks and range clicks on so many rows, ascending."""
+    return [(word, position) for word in ("click", "range") for position in range(number)]
+
+
+def least_cost(there, marks):
+    """The fewest clicks that lead from no marks to some: all are tried."""
+    goal = tuple(sorted(marks))
+
+    def behind(state, deed):
+        made, anchor = mark_all(there, state[0], state[1], [deed])
+        return tuple(made), anchor
+    return len(first_list(((), None), row_clicks(len(there)), behind, lambda state: state[0] == goal))
+
+
+def some_clicks(chance, number, length):
+    return [(chance.choice(["click", "range", "range"]), chance.randrange(number)) for _ in range(length)]
+
+
+def shuffled(chance, entries):
+    entries = list(entries)
+    chance.shuffle(entries)
+    return entries

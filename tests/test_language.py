@@ -28,6 +28,7 @@ NODES = (ast.Module, ast.Expr, ast.Constant, ast.ImportFrom, ast.alias, ast.Func
          ast.comprehension, ast.expr_context, ast.boolop, ast.unaryop, ast.cmpop, ast.Break, ast.Continue, ast.Pass,
          ast.Add, ast.Sub, ast.Mult, ast.FloorDiv, ast.Mod)
 AT_ONCE = ("list", "tuple", "dict", "sorted", "sum", "any", "all", "enumerate", "zip", "min", "max")
+LIBRARY = {"math": ("gcd", "lcm", "isqrt", "comb", "perm", "factorial")}
 KEYWORDS = {"sorted": ("key", "reverse"), "min": ("key", "default"), "max": ("key", "default"),
             "sum": ("start",), "enumerate": ("start",), "zip": ("strict",)}
 
@@ -133,12 +134,17 @@ class TreesTest(unittest.TestCase):
             ahead[name] = {node.module for node in nodes}
             for node in nodes:
                 self.assertEqual(node.level, 0)
+                if node.module in LIBRARY:
+                    for told in node.names:
+                        self.assertIsNone(told.asname)
+                        self.assertIn(told.name, LIBRARY[node.module])
+                    continue
                 here = [part.name for part in known[node.module].body
                         if isinstance(part, (ast.FunctionDef, ast.ClassDef))]
                 for told in node.names:
                     self.assertIsNone(told.asname)
                     self.assertIn(told.name, here)
-        left = dict(ahead)
+        left = {name: needed - set(LIBRARY) for name, needed in ahead.items()}
         while left:
             free = [name for name, needed in left.items() if not needed & set(left)]
             self.assertTrue(free, "modules import from each other: " + str(sorted(left)))
@@ -198,6 +204,16 @@ class TreesTest(unittest.TestCase):
                 if called(node) in ALL_BUILTINS:
                     for told in node.keywords:
                         self.assertIn(told.arg, KEYWORDS.get(called(node), ()), (name, node.lineno))
+
+    def test_what_the_library_gives_is_only_called(self):
+        given = {told for names in LIBRARY.values() for told in names}
+        for name, tree in trees():
+            imported = {told.name for node in ast.walk(tree) if isinstance(node, ast.ImportFrom)
+                        for told in node.names if node.module in LIBRARY}
+            calls = [node.func for node in ast.walk(tree) if isinstance(node, ast.Call) and not node.keywords]
+            for node in ast.walk(tree):
+                if isinstance(node, ast.Name) and node.id in given & imported:
+                    self.assertIn(node, calls, (name, node.lineno))
 
     def test_what_is_iterated_at_once(self):
         for name, tree in trees():
