@@ -11,16 +11,16 @@ def widest(table, rows):
     several = [[]]
     for column, bounds in enumerate(tight(table, rows)):
         several = [filters + [choice] for filters in several for choice in _beyond(table.column(column), bounds)]
-    found = [filters for filters in several
-             if let_rows(table, filters) == wanted and not _can_be_wider(table, filters, wanted)]
-    return sorted(found, key=lambda filters: [_place(bounds) for bounds in filters])
+    return [filters for filters in several
+            if let_rows(table, filters) == wanted and not _can_be_wider(table, filters, wanted)]
 
 
 def _beyond(cells, bounds):
-    """Bounds around others that stop just short of a cell outside of these, or do not stop."""
+    """Bounds around others that stop just short of a cell outside of these, or do not stop, in ascending order:
+    a low None is ahead of all others, a high None behind all others."""
     low, high = bounds
     lows = [None] + sorted(set([cell + 1 for cell in cells if cell < low]))
-    highs = [None] + sorted(set([cell - 1 for cell in cells if cell > high]))
+    highs = sorted(set([cell - 1 for cell in cells if cell > high])) + [None]
     return [(least, greatest) for least in lows for greatest in highs]
 
 
@@ -34,12 +34,6 @@ def _wider_by_one(bounds):
     low, high = bounds
     lows = [] if low is None else [(low - 1, high)]
     return lows if high is None else lows + [(low, high + 1)]
-
-
-def _place(bounds):
-    """Compares bounds: a low None is ahead of all others, a high None behind all others."""
-    low, high = bounds
-    return (low is not None, low or 0, high is None, high or 0)
 
 
 def fewest_bounds(table, rows):

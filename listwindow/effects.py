@@ -67,8 +67,6 @@ def first_marks_apart(rows, there, anchor, one, other):
 
 
 def same_made(effect, marks, other):
-    check_marks_of(len(effect), marks)
-    check_marks_of(len(effect), other)
     return marks_by(effect, marks) == marks_by(effect, other)
 
 

@@ -1,6 +1,6 @@
 """Ways by filters and folds: to marks that cost less, and from positions and open rows to filters that show them."""
 
-from listwindow.checks import check_filters, check_marks_of, check_marks_there, check_position, check_sorting
+from listwindow.checks import check_marks_of, check_marks_there, check_position, check_sorting
 from listwindow.choices import all_choices
 from listwindow.closures import closure, tight
 from listwindow.errors import InvalidPosition, InvalidSorting
@@ -40,7 +40,6 @@ def by_filters(view):
 
 def stretch_of(table, sorting, filters):
     order = order_of(table, sorting)
-    check_filters(table.width, filters)
     let = let_rows(table, filters)
     places = [position for position, row in enumerate(order) if row in let]
     if not places or places[-1] - places[0] + 1 != len(places):
@@ -64,7 +63,6 @@ def filter_for(table, sorting, first, last):
 
 
 def folds_for_marks(view, marks):
-    check_marks_of(len(view.table), marks)
     shown = view.shown()
     check_marks_there(shown, marks)
     found = []

@@ -44,7 +44,8 @@ def _apart(one, other):
 def _check_form(values, form):
     kept, others, turned = form
     ascending = all([value < later for value, later in zip(turned, turned[1:])])
-    if kept and not others or kept != others and not values or not ascending:
+    are_flags = kept == others or not kept and values != []
+    if not are_flags or not ascending:
         raise InvalidValue((kept, others, list(turned)))
 
 
@@ -71,7 +72,7 @@ def _ones(values, form):
     if kept:
         return [None]
     # What is done ahead of ("all",) is lost, and on the groups what is done ahead of ("one", value).
-    return sorted(values) if others else [None] + sorted(values)
+    return list(values) if others else [None] + values
 
 
 def _deeds_by(values, form, one):

@@ -73,7 +73,6 @@ def _clicks_to_meet(alike, unlike):
 
 
 def cost_orders(table, marks):
-    check_marks_of(len(table), marks)
     return sorted(_cost_sortings(table, marks), key=lambda pair: pair[0])
 
 
@@ -84,7 +83,6 @@ def _cost_sortings(table, marks):
 
 def cheapest_sorting(table, sorting, marks):
     check_sorting(table.width, sorting)
-    check_marks_of(len(table), marks)
     found = []
     for number, goal in _cost_sortings(table, marks):
         way = first_way(table.width, sorting, goal)
@@ -96,7 +94,6 @@ def cheapest_sorting(table, sorting, marks):
 def one_stop(table, sorting, goal, marks):
     check_sorting(table.width, sorting)
     check_sorting(table.width, goal)
-    check_marks_of(len(table), marks)
     found = []
     for number, stop in _cost_sortings(table, marks):
         heads = first_way(table.width, sorting, stop)

@@ -138,8 +138,6 @@ def turns_for(size, effect):
 
 def _turns_to_one(size, scroll):
     """The turns that lead all scrolls of a room to one: from one of both ends."""
-    if size == 0:
-        return []
     return _first_turns([_steps_along([-size, scroll - size]), _steps_along([size, scroll])])
 
 

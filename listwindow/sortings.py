@@ -92,4 +92,5 @@ def pairs_apart(table, one, other):
 
 def _places(order):
     """For each row where it stands in an order."""
-    return [place for row, place in sorted([(row, place) for place, row in enumerate(order)])]
+    pairs = sorted([(row, place) for place, row in enumerate(order)])
+    return [pair[1] for pair in pairs]

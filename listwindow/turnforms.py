@@ -50,22 +50,22 @@ def room_apart(one, other):
     # In a room that grows, what a short form does changes its course only where the room is as great as a turn.
     sizes = [1] + [abs(turn) + 1 for turn in mine + others]
     for size in sorted(sizes):
-        scroll = _first_apart(size, effect_on(size, mine), effect_on(size, others))
+        scroll = _first_apart(effect_on(size, mine), effect_on(size, others))
         if scroll is not None:
             return (size, scroll)
     return None
 
 
-def _first_apart(size, one, other):
-    """The least scroll of a room that two effects lead to unlike scrolls, None if they are the same."""
+def _first_apart(one, other):
+    """The least scroll that two effects lead to unlike ones, in the least room in which they differ, None if none."""
     if one == other:
         return None
     if one[1] != other[1]:
         return 0
-    # Both keep the least scrolls at one place: what they do changes behind these, or where one comes to its end.
-    (shift, low, high), (shifted, _, greatest) = one, other
-    ends = [low - shift, low - shifted, high - shift, greatest - shifted]
-    scrolls = [end + 1 for end in ends if 0 <= end < size]
+    # Both keep the least scrolls at one place. If they part later than where one of them leads the next scroll on,
+    # they part in a lesser room, too: where one of them leads all scrolls to one place, and the other does not.
+    (shift, low, _), (shifted, _, _) = one, other
+    scrolls = [low - shift + 1, low - shifted + 1]
     return min([scroll for scroll in scrolls if led_to(one, scroll) != led_to(other, scroll)])
 
 

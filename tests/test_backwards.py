@@ -123,6 +123,8 @@ class BeforeTest(unittest.TestCase):
         self.assertEqual(marks_before(lost, list(range(1, 40, 2))), [])
         self.assertEqual(marks_before(lost, list(range(0, 40, 2))), [0])
         self.assertEqual(pair_against(lost, list(range(0, 39, 2))[:-1]), (0, 38))
+        about = [(39 - row, False) for row in range(40)]
+        self.assertEqual(marks_before(about, [7, 15, 23, 31, 39]), [0, 8, 16, 24, 32])
         plain = [(row, False) for row in range(40)]
         self.assertEqual((marks_before(plain, [3, 39]), ways_before(plain, [3, 39])), ([3, 39], 1))
 

@@ -50,6 +50,12 @@ class WidestTest(unittest.TestCase):
         self.assertEqual(widest(table, [0]), [[(None, 2), (None, 4)], [OPEN, (-1, 4)], [(-3, 2), OPEN],
                                               [(-3, None), (-1, None)]])
 
+    def test_in_ascending_order(self):
+        self.assertEqual(widest(Table(2, [[0, 0], [-3, 1], [-1, 2]]), [0]),
+                         [[OPEN, (None, 0)], [(-2, None), (None, 1)], [(0, None), OPEN]])
+        self.assertEqual(widest(Table(2, [[-9, -9], [-6, -8], [-8, -7]]), [0]),
+                         [[(None, -9), OPEN], [(None, -7), (None, -8)], [OPEN, (None, -9)]])
+
     def test_against_all_filters(self):
         chance = random.Random(1)
         tables = [random_table(chance, width, rows) for width, rows in [(1, 4), (1, 6), (2, 3), (2, 4), (2, 5), (2, 6)]]

@@ -91,6 +91,8 @@ class CoversTest(unittest.TestCase):
                       [(0,), (1, 2), (5,)], [(0, 1, 2), (4,)], [(0,), (1, 2), (4,), ()], [(0, 1), (2, 4)],
                       [(0,), (0,), (1, 2), (4,)], [(0, 1), (1, 2), (4,)], [(), (0, 1, 2), (4,)]):
             self.assertEqual(error_of(clicks_of_cover, THERE, [0, 1, 3], cover), (InvalidValue, cover))
+        for cover in ([(0, 2), (4,), (5,)], [(0, 4), (2,), (5,)], [(0,), (2, 4), (5,)]):
+            self.assertEqual(error_of(clicks_of_cover, [0, 1, 2, 3, 4], [0, 1, 4], cover), (InvalidValue, cover))
         self.assertEqual(error_of(clicks_of_cover, [], [], [()]), (InvalidValue, [()]))
         self.assertEqual(error_of(clicks_of_cover, [3], [3], [(0,), (1,)]), (InvalidValue, [(0,), (1,)]))
 

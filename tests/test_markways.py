@@ -194,6 +194,13 @@ class CheapestSortingTest(unittest.TestCase):
                 number, _, clicks, keys = min(every)
                 self.assertEqual(cheapest_sorting(table, start, marks), (number, clicks, keys))
 
+    def test_of_equally_cheap_ones_the_first_clicks(self):
+        rows = [[0, 2], [2, 1], [2, 0], [2, 0], [0, 2], [1, 2], [1, 2], [2, 0], [1, 0], [2, 0]]
+        self.assertEqual(cheapest_sorting(Table(2, rows), [(1, 1)], [1, 2, 3, 5, 6, 7, 8, 9]), (3, [0], [(0, 1), (1, 1)]))
+        rows = [[0, 1], [2, 1], [2, 1], [1, 1], [2, 2], [1, 2], [1, 0], [1, 1], [2, 0], [1, 0]]
+        self.assertEqual(cheapest_sorting(Table(2, rows), [(0, -1)], [0, 1, 2, 3, 5, 7, 8]),
+                         (4, [0, 1], [(1, 1), (0, 1)]))
+
     def test_at_the_limits(self):
         table = Table(3, [[row % 2, row % 3, 0] for row in range(40)])
         number, clicks, keys = cheapest_sorting(table, [(2, 1)], list(range(0, 40, 6)))
@@ -225,8 +232,14 @@ class FewestAnyhowTest(unittest.TestCase):
                 start = chance.choice(all_sortings(table.width))
                 self.assertEqual(fewest_anyhow(table, start, marks), first_anyhow(table, start, marks))
 
+    def test_it_pays_to_sort_between_a_click_and_a_range_click(self):
+        # Only with more rows than there are at the limit a click on a head is less than what it saves.
+        table = Table(1, [[1], [2], [1], [2], [1], [2], [1]])
+        told = [("click", 0), ("sort", 0), ("range", 3)]
+        self.assertEqual(fewest_anyhow(table, [], [0, 2, 4, 6]), told)
+        self.assertEqual(first_anyhow(table, [], [0, 2, 4, 6]), told)
+
     def test_at_the_limits(self):
-        # It pays to sort between a click and a range click.
         table = Table(2, [[3, 1], [1, 2], [3, 2], [2, 1], [1, 1]])
         for marks in sublists(range(5))[::3]:
             told = fewest_anyhow(table, [], marks)
@@ -258,6 +271,11 @@ class OneStopTest(unittest.TestCase):
                 else:
                     number, _, heads, back = min(every)
                     self.assertEqual(told, (number, heads, back))
+
+    def test_of_equally_cheap_stops_the_one_with_the_first_clicks(self):
+        rows = [[0, 1], [0, 2], [1, 2], [0, 1], [1, 0], [0, 0], [2, 2], [1, 1], [1, 1], [2, 1]]
+        self.assertEqual(one_stop(Table(2, rows), [(1, 1), (0, -1)], [(0, 1), (1, -1)], [1, 2, 3, 4, 7, 8]),
+                         (6, [0], [1, 1, 0]))
 
     def test_at_the_limits(self):
         table = Table(3, [[row % 2, row % 3, 0] for row in range(40)])
