@@ -1,7 +1,11 @@
 """What more than one module refuses. The lists in errors are copies, so that they belong to the error alone."""
 
-from listwindow.errors import InvalidColumn, InvalidDeed, InvalidFilters, InvalidMarks, InvalidNumber, InvalidOrder
-from listwindow.errors import InvalidPosition, InvalidRow, InvalidRows, InvalidSorting, InvalidValue
+from listwindow.errors import InvalidColumn, InvalidDeed, InvalidFilters, InvalidMarks, InvalidName, InvalidNumber
+from listwindow.errors import InvalidOrder, InvalidPosition, InvalidRow, InvalidRows, InvalidSorting, InvalidValue
+from listwindow.errors import UnknownPlace
+from listwindow.naming import is_name
+
+PARTS = {"sort": 1, "only": 3, "fold": 1, "one": 1, "all": 0, "click": 1, "range": 1, "turn": 1, "visit": 1}
 
 
 def check_number(number):
@@ -12,6 +16,11 @@ def check_number(number):
 def check_width(width):
     if width < 1:
         raise InvalidNumber(width)
+
+
+def check_height(height):
+    if height < 1:
+        raise InvalidNumber(height)
 
 
 def check_column(width, column):
@@ -138,6 +147,12 @@ def check_words(words, deeds):
             raise InvalidDeed(deed)
 
 
+def check_deed(deed):
+    """A deed of a window has one of the words, and as many parts as this word has."""
+    if not deed or PARTS.get(deed[0]) != len(deed) - 1:
+        raise InvalidDeed(deed)
+
+
 def check_clicks(number, clicks):
     """Clicks and range clicks on so many rows."""
     for click in clicks:
@@ -150,3 +165,21 @@ def check_clicks(number, clicks):
 def check_position(number, position):
     if not 0 <= position < number:
         raise InvalidPosition(position)
+
+
+def check_names(names):
+    for name in names:
+        if not is_name(name):
+            raise InvalidName(name)
+
+
+def check_different_places(names):
+    for at, name in enumerate(names):
+        if name in names[:at]:
+            raise UnknownPlace(name)
+
+
+def check_trail(trail):
+    """Names of places, none of them twice."""
+    check_names(trail)
+    check_different_places(trail)

@@ -5,7 +5,7 @@ from listwindow.choices import all_choices
 from listwindow.closures import closure, tight
 from listwindow.errors import InvalidPosition, InvalidSorting
 from listwindow.filters import let_rows, open_filters
-from listwindow.folding import fewest_folds
+from listwindow.folding import all_ways_to_fold
 from listwindow.marks import cost
 from listwindow.markways import cheapest_clicks
 from listwindow.sortings import order_of
@@ -63,12 +63,8 @@ def filter_for(table, sorting, first, last):
 
 
 def folds_for_marks(view, marks):
-    shown = view.shown()
-    check_marks_there(shown, marks)
-    found = []
-    for folded in all_choices([rows for value, rows in view.groups()]):
-        left = [row for row in shown if not any([row in rows for rows in folded])]
-        if all([row in left for row in marks]):
-            deeds = fewest_folds(view, left)
-            found.append((len(deeds) + cost(left, marks), deeds))
+    check_marks_there(view.shown(), marks)
+    found = [(len(deeds) + cost(left, marks), deeds)
+             for left, deeds in all_ways_to_fold(view)
+             if all([row in left for row in marks])]
     return min(found, key=lambda told: (told[0], len(told[1]), told[1]))

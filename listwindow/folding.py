@@ -1,6 +1,7 @@
 """Folding: the forms of folds, and the fewest deeds on groups that leave some rows open."""
 
 from listwindow.checks import check_shown, check_words
+from listwindow.choices import all_choices
 from listwindow.groupforms import group_deeds, shortest_deeds
 
 
@@ -52,3 +53,13 @@ def open_states(view):
     for _ in view.groups():
         states *= 2
     return states
+
+
+def all_ways_to_fold(view):
+    """For each list of rows that deeds on groups can leave open the rows, and the fewest deeds that do."""
+    shown = view.shown()
+    found = []
+    for folded in all_choices([rows for value, rows in view.groups()]):
+        left = [row for row in shown if not any([row in rows for rows in folded])]
+        found.append((left, fewest_folds(view, left)))
+    return found

@@ -1,14 +1,13 @@
 """Rooms: how turns scroll a window and the page that it stands on."""
 
-from listwindow.checks import check_number
+from listwindow.checks import check_height, check_number
 from listwindow.errors import InvalidNumber, InvalidValue
 from listwindow.repeating import many_times
 
 
 def room_of(lines, height):
     check_number(lines)
-    if height < 1:
-        raise InvalidNumber(height)
+    check_height(height)
     return max(lines - height, 0)
 
 

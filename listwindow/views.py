@@ -1,7 +1,7 @@
 """Views: a table with a sorting, filters and folds, and the lines that it shows."""
 
 from listwindow.checks import check_deed_columns, check_different_values, check_filters, check_folds, check_sorting
-from listwindow.filters import let_rows, with_only
+from listwindow.filters import let_rows, open_filters, with_only
 from listwindow.sortings import clicked_on, order_of
 
 
@@ -75,6 +75,11 @@ class View:
         for deed in deeds:
             view = _behind(view, deed)
         return view
+
+
+def plain_view(table, sorting):
+    """A view with open filters and nothing folded."""
+    return View(table, sorting, open_filters(table.width), [[] for _ in range(table.width)])
 
 
 def _behind(view, deed):

@@ -21,7 +21,7 @@ def text_of(path):
 
 class ExamplesTest(unittest.TestCase):
     def test_examples(self):
-        self.assertEqual(len(names()), 23)
+        self.assertEqual(len(names()), 34)
         for name in names():
             with self.subTest(module=name):
                 examples = doctest.DocTestParser().get_doctest(

@@ -3,13 +3,19 @@
 import copy
 import importlib
 import inspect
+import os
+import re
 import unittest
 
+from listwindow import errors
 from listwindow.errors import WindowError
+from listwindow.houses import House
 from listwindow.shapes import ranked
 from listwindow.tables import Table
 from listwindow.views import View
+from listwindow.windows import Reader, Window
 from tests.support import example_table, great_table, lists_in
+from tests.test_examples import DOCUMENT, text_of
 
 OPEN = (None, None)
 FORM = ([(1, 1), (0, -1)], True)
@@ -27,6 +33,28 @@ def T():
 
 def V():
     return View(T(), [(0, 1)], [OPEN, OPEN], [[3, 1], [2]])
+
+
+def H():
+    return House([("all", T()), ("few", Table(1, [[7]]))])
+
+
+def P():
+    return View(T(), [(0, 1)], [OPEN, OPEN], [[1], []])
+
+
+SCRIPT = [("sort", 0), ("click", 1), ("range", 2), ("fold", 1), ("only", 1, 1, 2), ("visit", "few"), ("turn", 1)]
+PLAIN_SCRIPT = [("sort", 0), ("only", 0, 1, 3), ("visit", "few"), ("sort", 0), ("visit", "all"), ("only", 1, 1, None)]
+VISIT_FORM = ("a", [("a", "a"), ("b", "a"), ("c", "a")])
+NO_VISIT_FORM = ("a", [("a", "b"), ("b", "a")])
+SCRIPT_FORM = ([(None, ([(0, 1)], True), [("only", 0, 1, 3)]), ("b", ([(1, -1)], True), [])], VISIT_FORM)
+NO_SCRIPT_FORM = ([("b", ([(1, -1)], True), []), ("a", ([(0, 1)], True), [])], VISIT_FORM)
+PLACES = [("b", [(0, 1)], [OPEN, (1, 2)]), ("c", [], [OPEN, OPEN]), ("a", [(1, 1)], [OPEN, OPEN])]
+SMALL = Table(2, [[1, 1], [1, 2], [2, 1]])
+LINES = [("head", 1, 2), ("row", 0), ("row", 1), ("head", 2, 1), ("row", 2)]
+RECORD = [([], 0, LINES[:3]), ([1, 0], 9, LINES[2:])]
+STANDING = (["all"], [("all", [(0, 1)], [OPEN, (1, 2)], [[1], []], [1, 4], 4, 1),
+                      ("few", [], [OPEN], [[]], [], None, 0)], 1)
 
 
 # For each function of the interface its parameters, and arguments with which it returns something.
@@ -237,6 +265,118 @@ CALLS = {
         ("swing", "turns", ([2, -5, 3],)),
         ("rooms_for", "turns scroll", ([5, -2, 1], 1)),
     ],
+    "seen": [
+        ("seen_lines", "view height scroll", (P(), 3, 1)),
+        ("seen_lines", "view height scroll", (P(), 3, 3)),
+        ("scrolls_for", "view height line", (P(), 3, 2)),
+        ("scrolls_showing", "view height row", (P(), 3, 3)),
+        ("stops", "view height", (P(), 3)),
+        ("told_scrolls", "view height seen", (P(), 2, [("head", 2, 1), ("row", 3)])),
+        ("told_starts", "view height turns seen", (P(), 2, [1], [[("head", 1, 2), ("head", 2, 1)],
+                                                                 [("head", 2, 1), ("row", 3)]])),
+        ("fewest_scrolls", "view height rows", (P(), 2, [3, 0])),
+        ("never_together", "view height rows", (P(), 2, [3, 0])),
+        ("least_height", "view rows", (P(), [3, 0])),
+        ("fewest_to_see", "view height rows", (P(), 4, [1, 3])),
+    ],
+    "trails": [
+        ("trail_after", "trail visits", (["a", "b"], ["c", "b"])),
+        ("trail_after", "trail visits", (["a", "b"], [])),
+        ("visit_form", "visits", (["a", "b", "a"],)),
+        ("by_form", "form trail", (VISIT_FORM, ["x", "b"])),
+        ("by_form", "form trail", ((None, []), ["x", "b"])),
+        ("visits_alike", "one other", (["a"], ["a", "b"])),
+        ("trail_apart", "one other", (["a", "b"], ["b"])),
+        ("trail_apart", "one other", (["a", "x", "a"], ["a"])),
+        ("shortest_visits", "form", (VISIT_FORM,)),
+        ("visits_between", "trail goal", (["a", "b"], ["a", "c"])),
+        ("visits_between", "trail goal", (["a"], ["a", "c"])),
+        ("visits_between", "trail goal", ([], ["a", "c"])),
+        ("joined_visits", "one other", (VISIT_FORM, ("c", [("a", "a"), ("c", "a")]))),
+        ("joined_visits", "one other", (VISIT_FORM, (None, []))),
+        ("joined_visits", "one other", ((None, []), VISIT_FORM)),
+        ("kept_trails", "form", (VISIT_FORM,)),
+        ("kept_trails", "form", ((None, []),)),
+        ("ways_home", "trail visits", (["a"], ["b", "a"])),
+    ],
+    "trailways": [
+        ("leaves", "form", (VISIT_FORM,)),
+        ("fewest_visits", "form", (VISIT_FORM,)),
+        ("number_of_shortest", "form", (VISIT_FORM,)),
+        ("visit_forms", "number", (3,)),
+        ("visits_told", "trail trails", (["a"], [["a", "b"], ["a"]])),
+        ("visits_of_lengths", "places lengths", (["c", "a"], [1, 2, 1])),
+        ("visits_of_lengths", "places lengths", (["c", "a"], [])),
+        ("number_before", "form places goal", (VISIT_FORM, ["x", "b"], ["x", "b", "a"])),
+        ("tour", "trail places goal", (["a", "b"], ["x"], ["a", "b"])),
+        ("tour", "trail places goal", ([], [], ["a", "b"])),
+    ],
+    "scripts": [
+        ("standing_after", "house height room script", (H(), 3, 2, SCRIPT)),
+        ("standing_after", "house height room script", (H(), 3, 2, [])),
+        ("idle", "house height room script", (H(), 3, 2, SCRIPT)),
+        ("needless", "house height room script", (H(), 3, 2, SCRIPT)),
+        ("exchangeable", "house height room script", (H(), 3, 2, SCRIPT)),
+        ("first_return", "house height room script", (H(), 3, 2, SCRIPT + [("turn", -1)])),
+        ("commute", "house height room script one other", (H(), 3, 2, SCRIPT, ("turn", 1), ("turn", -1))),
+        ("heads_of", "house height room script", (H(), 3, 2, SCRIPT)),
+        ("marks_through", "house height room script", (H(), 3, 2, SCRIPT)),
+        ("scroll_through", "house height script", (H(), 3, SCRIPT)),
+    ],
+    "scriptforms": [
+        ("script_form", "script", (PLAIN_SCRIPT,)),
+        ("script_form", "script", ([],)),
+        ("scripts_alike", "one other", (PLAIN_SCRIPT, PLAIN_SCRIPT[1:])),
+        ("script_for", "form", (SCRIPT_FORM,)),
+        ("script_for", "form", (([], (None, [])),)),
+        ("joined_scripts", "one other", (SCRIPT_FORM, SCRIPT_FORM)),
+        ("joined_scripts", "one other", (SCRIPT_FORM, ([], (None, [])))),
+        ("joined_scripts", "one other", (([], (None, [])), SCRIPT_FORM)),
+        ("repeated_script", "form times", (SCRIPT_FORM, 0)),
+        ("repeated_script", "form times", (SCRIPT_FORM, 1)),
+        ("repeated_script", "form times", (SCRIPT_FORM, 10 ** 30)),
+        ("by_script", "form trail places", (SCRIPT_FORM, ["b"], PLACES)),
+        ("by_script", "form trail places", (([], (None, [])), ["b", "a"], PLACES)),
+        ("scripts_apart", "one other", (PLAIN_SCRIPT, PLAIN_SCRIPT[1:])),
+        ("scripts_apart", "one other", ([("visit", "a")], [("visit", "b")])),
+    ],
+    "wishes": [
+        ("fewest_for_order", "house height room script order", (H(), 3, 2, [], [1, 4, 3, 0, 2])),
+        ("fewest_for_rows", "house height room script rows", (H(), 3, 2, SCRIPT[:5], [2, 0])),
+        ("plan", "house height room script order marks", (H(), 3, 2, [("sort", 0)], [1, 4, 3, 0, 2], [1, 3])),
+        ("plan", "house height room script order marks", (H(), 3, 2, [], None, [1, 3])),
+        ("judge_plan", "house height room script order marks told",
+         (H(), 3, 2, [], [1, 4, 3, 0, 2], [], [("sort", 0)])),
+        ("least_marked_lines", "house height room script marks", (H(), 3, 2, SCRIPT[:5], [1, 3])),
+    ],
+    "toldback": [
+        ("sortings_for", "table lines", (SMALL, LINES)),
+        ("standings_for", "table height seen", (SMALL, 2, [("head", 1, 2), ("head", 2, 1)])),
+        ("folded_for", "table sorting lines", (SMALL, [(0, 1)], [("head", 1, 2)] + LINES[3:])),
+        ("best_click", "table height scroll known", (SMALL, 9, 0, [[(0, 1)], [(0, -1)]])),
+        ("clicks_to_one", "table known", (SMALL, [[(0, 1)], [(0, -1)]])),
+        ("told_apart", "table known", (SMALL, [[], [(0, 1)]])),
+    ],
+    "records": [
+        ("sortings_told", "table height record", (SMALL, 3, RECORD[:1])),
+        ("first_lie", "table height record", (SMALL, 3, RECORD)),
+    ],
+    "standings": [
+        ("comes_about", "house height room standing", (H(), 3, 2, STANDING)),
+        ("script_to", "house height room standing", (H(), 3, 2, STANDING)),
+    ],
+    "texts": [
+        ("show_table", "table", (T(),)),
+        ("show_sorting", "sorting", ([(0, 1), (2, -1)],)),
+        ("show_script", "script", (SCRIPT,)),
+        ("show_lines", "lines", (LINES,)),
+    ],
+    "readings": [
+        ("read_table", "text", ("2: 3,1 1,-2",)),
+        ("read_sorting", "text", ("+0 -2",)),
+        ("read_script", "text", ("sort 0; only 1 * -5; visit few",)),
+        ("read_lines", "text", ("1 (2) #4",)),
+    ],
 }
 
 # For each class of the interface the parameters of its constructor and of its methods, with arguments.
@@ -257,9 +397,20 @@ METHODS = [
         ("done", "deeds", (DEEDS,)),
         ("done", "deeds", ([],)),
     ]),
+    ("houses", "House", "places", ([("all", T()), ("few", Table(1, [[7]]))],), [
+        ("with_table", "name table", ("few", SMALL)),
+        ("with_table", "name table", ("more", SMALL)),
+        ("without", "name", ("few",)),
+        ("renamed", "name other", ("few", "fewer")),
+    ]),
 ]
 
-PROPERTIES = {"Table": ["width", "rows"], "View": ["table", "sorting", "filters", "folds"]}
+# Those of windows change them; what they return may be spoilt all the same.
+WINDOW_METHODS = {"run": "script", "undo": "", "redo": "", "view": "", "seen": "", "log": "", "to": "number", "twin": "",
+                  "__call__": "deed", "__len__": "", "__eq__": "other"}
+WINDOW_PROPERTIES = ["here", "trail", "marks", "scrolls"]
+
+PROPERTIES = {"Table": ["width", "rows"], "View": ["table", "sorting", "filters", "folds"], "House": ["names"]}
 
 # Calls that are refused for a list, which the error then has.
 REFUSED = [
@@ -340,6 +491,41 @@ REFUSED = [
     ("filterways", "stretch_of", (T(), [(2, 1)], [])),
     ("filterways", "filter_for", (T(), [], 0, 0)),
     ("filterways", "folds_for_marks", (V(), [9])),
+    ("seen", "fewest_scrolls", (P(), 3, [0, 0])),
+    ("seen", "never_together", (P(), 3, [0, 0])),
+    ("seen", "least_height", (P(), [0, 0])),
+    ("seen", "fewest_to_see", (P(), 3, [9])),
+    ("trails", "by_form", (NO_VISIT_FORM, [])),
+    ("trails", "shortest_visits", (NO_VISIT_FORM,)),
+    ("trails", "joined_visits", (NO_VISIT_FORM, VISIT_FORM)),
+    ("trails", "joined_visits", (VISIT_FORM, NO_VISIT_FORM)),
+    ("trails", "kept_trails", (NO_VISIT_FORM,)),
+    ("trailways", "leaves", (NO_VISIT_FORM,)),
+    ("trailways", "fewest_visits", (NO_VISIT_FORM,)),
+    ("trailways", "number_of_shortest", (NO_VISIT_FORM,)),
+    ("trailways", "number_before", (NO_VISIT_FORM, [], [])),
+    ("scriptforms", "script_for", (NO_SCRIPT_FORM,)),
+    ("scriptforms", "joined_scripts", (NO_SCRIPT_FORM, SCRIPT_FORM)),
+    ("scriptforms", "joined_scripts", (SCRIPT_FORM, NO_SCRIPT_FORM)),
+    ("scriptforms", "repeated_script", (NO_SCRIPT_FORM, 1)),
+    ("scriptforms", "by_script", (NO_SCRIPT_FORM, ["b"], PLACES)),
+    ("wishes", "fewest_for_order", (H(), 3, 2, SCRIPT, [0, 0])),
+    ("wishes", "fewest_for_rows", (H(), 3, 2, SCRIPT, [0, 0])),
+    ("wishes", "plan", (H(), 3, 2, [], [0, 0], [])),
+    ("wishes", "plan", (H(), 3, 2, [("click", 1)], None, [0])),
+    ("wishes", "plan", (H(), 3, 2, [], None, [9])),
+    ("wishes", "judge_plan", (H(), 3, 2, [], [0, 0], [], [("sort", 0)])),
+    ("wishes", "judge_plan", (H(), 3, 2, [], None, [9], [("sort", 0)])),
+    ("wishes", "least_marked_lines", (H(), 3, 2, [], [9])),
+    ("toldback", "folded_for", (SMALL, [], LINES)),
+    ("toldback", "folded_for", (SMALL, [(2, 1)], LINES)),
+]
+
+# Calls that are refused for an entry of a list that is a list.
+REFUSED_WITHIN = [
+    ("toldback", "best_click", (SMALL, 9, 0, [[(0, 1)], [(2, 1)]])),
+    ("toldback", "clicks_to_one", (SMALL, [[(0, 1)], [(2, 1)]])),
+    ("toldback", "told_apart", (SMALL, [[(0, 1)], [(2, 1)]])),
 ]
 
 
@@ -372,7 +558,42 @@ class InterfaceTest(unittest.TestCase):
                 self.assertIsInstance(vars(told)[attribute], property)
             for method in ("__init__", "__eq__", "__len__"):
                 self.assertIn(method, vars(told))
-        self.assertIn("__add__", vars(Table))
+        for told in (Table, House):
+            self.assertIn("__add__", vars(told))
+        self.assertIn("__getitem__", vars(House))
+
+    def test_windows_have_their_methods_themselves(self):
+        for told in (Window, Reader):
+            self.assertEqual(told.__module__, "listwindow.windows")
+            self.assertEqual(list(inspect.signature(told).parameters), ["house", "height", "room"])
+            for method in ("__call__", "run", "__init__"):
+                self.assertIn(method, vars(told))
+        for method, names in WINDOW_METHODS.items():
+            self.assertEqual(list(inspect.signature(vars(Window)[method]).parameters)[1:], names.split())
+            self.assertEqual(list(inspect.signature(getattr(Reader, method)).parameters)[1:], names.split())
+        for attribute in WINDOW_PROPERTIES:
+            self.assertIsInstance(vars(Window)[attribute], property)
+
+    @unittest.skipUnless(os.path.exists(DOCUMENT), "the document is not here")
+    def test_all_names_of_the_document_are_here(self):
+        known = {(module, name): parameters for module, calls in CALLS.items() for name, parameters, _ in calls}
+        for module, name, parameters, _, methods in METHODS:
+            known[(module, name)] = parameters
+            known.update({(module, method): names for method, names, _ in methods})
+        known.update({("windows", name): "house height room" for name in ("Window", "Reader")})
+        known.update({("windows", method): names for method, names in WINDOW_METHODS.items()})
+        # What a section tells of others: the call of a window, the length, a function of effects, the errors.
+        others = [name for name, told in vars(errors).items() if isinstance(told, type)] + ["window", "len", "marks_by"]
+        found = set()
+        for part in re.split(r"\n(?=## listwindow/)", text_of(DOCUMENT))[1:]:
+            module = re.match(r"## listwindow/(\w+)\.py", part)[1]
+            for name, told in re.findall(r"`(\w+)\(([a-z_, ]*)\)`", re.sub(r"```.*?```", "", part, flags=re.S)):
+                if (module, name) in known or name not in others:
+                    self.assertEqual(known[(module, name)], " ".join(told.replace(",", " ").split()), (module, name))
+                    found.add((module, name))
+        functions = {(module, name) for module, calls in CALLS.items() for name, _, _ in calls}
+        self.assertEqual(functions - found, set())
+        self.assertEqual(len({module for module, _ in found}), 37)
 
 
 class GeneralTest(unittest.TestCase):
@@ -387,10 +608,10 @@ class GeneralTest(unittest.TestCase):
         told = lists_in(result)
         self.assertEqual(len({id(each) for each in told}), len(told))
         self.assertEqual({id(each) for each in told} & {id(each) for each in lists_in(given)}, set())
-        tables = copy.deepcopy([each for each in given if isinstance(each, (Table, View))])
+        kept = copy.deepcopy([each for each in given if isinstance(each, (Table, View, House))])
         spoil(result)
         spoil(given)
-        self.assertEqual([each for each in given if isinstance(each, (Table, View))], tables)
+        self.assertEqual([each for each in given if isinstance(each, (Table, View, House))], kept)
         self.assertEqual(call(*copy.deepcopy(arguments)), expected)
         if not lists_in(result):
             self.assertEqual(result, expected)
@@ -421,7 +642,7 @@ class GeneralTest(unittest.TestCase):
                     self.assertEqual(made, held(module, name)(*copy.deepcopy(arguments)))
 
     def test_properties(self):
-        for made in (T(), V(), great_table()):
+        for made in (T(), V(), H(), great_table()):
             for name in PROPERTIES[made.__class__.__name__]:
                 before = copy.deepcopy(made)
                 value = getattr(made, name)
@@ -441,19 +662,21 @@ class GeneralTest(unittest.TestCase):
         self.assertIsNot(table.rows[0], table.rows[1])
 
     def test_lists_in_errors_are_new(self):
-        for module, name, arguments in REFUSED:
+        for module, name, arguments in REFUSED + REFUSED_WITHIN:
             given = copy.deepcopy(arguments)
             with self.subTest(name=name, arguments=arguments):
                 with self.assertRaises(WindowError) as caught:
                     held(module, name)(*given)
                 self.assertEqual(given, arguments)
                 value = caught.exception.value
-                self.assertIn(value, arguments)
+                entries = [entry for told in arguments if isinstance(told, list) for entry in told]
+                self.assertIn(value, entries if (module, name, arguments) in REFUSED_WITHIN else arguments)
                 told = lists_in(value)
                 self.assertTrue(told)
+                self.assertEqual(len({id(each) for each in told}), len(told))
                 self.assertEqual({id(each) for each in told} & {id(each) for each in lists_in(given)}, set())
                 spoil(value)
                 self.assertEqual(given, arguments)
                 with self.assertRaises(WindowError) as caught:
                     held(module, name)(*given)
-                self.assertIn(caught.exception.value, arguments)
+                self.assertIn(caught.exception.value, entries + list(arguments))

@@ -9,7 +9,7 @@ import unittest
 PACKAGE = os.path.join(os.path.dirname(os.path.dirname(os.path.abspath(__file__))), "listwindow")
 
 BUILTINS = set("""len range enumerate zip min max sum abs sorted reversed int str bool bytes list tuple dict set
-    frozenset isinstance ord repr any all divmod ValueError NotImplemented property""".split())
+    frozenset isinstance ord repr any all divmod ValueError TypeError NotImplemented property""".split())
 METHODS = set("""append clear copy count endswith extend find get index insert isalnum isalpha isdigit islower isspace
     isupper items join keys ljust lower lstrip partition pop remove replace reverse rfind rjust rpartition rsplit
     rstrip setdefault split splitlines startswith strip update upper values zfill bit_length""".split())
@@ -26,7 +26,8 @@ NODES = (ast.Module, ast.Expr, ast.Constant, ast.ImportFrom, ast.alias, ast.Func
          ast.If, ast.IfExp, ast.For, ast.While, ast.Raise, ast.Compare, ast.BoolOp, ast.BinOp, ast.UnaryOp,
          ast.Subscript, ast.Slice, ast.List, ast.Tuple, ast.Dict, ast.ListComp, ast.DictComp, ast.SetComp,
          ast.comprehension, ast.expr_context, ast.boolop, ast.unaryop, ast.cmpop, ast.Break, ast.Continue, ast.Pass,
-         ast.Add, ast.Sub, ast.Mult, ast.FloorDiv, ast.Mod)
+         ast.Add, ast.Sub, ast.Mult, ast.FloorDiv, ast.Mod, ast.Try, ast.ExceptHandler, ast.JoinedStr,
+         ast.FormattedValue)
 AT_ONCE = ("list", "tuple", "dict", "sorted", "sum", "any", "all", "enumerate", "zip", "min", "max")
 LIBRARY = {"math": ("gcd", "lcm", "isqrt", "comb", "perm", "factorial")}
 KEYWORDS = {"sorted": ("key", "reverse"), "min": ("key", "default"), "max": ("key", "default"),
@@ -139,8 +140,7 @@ class TreesTest(unittest.TestCase):
                         self.assertIsNone(told.asname)
                         self.assertIn(told.name, LIBRARY[node.module])
                     continue
-                here = [part.name for part in known[node.module].body
-                        if isinstance(part, (ast.FunctionDef, ast.ClassDef))]
+                here = module_names(known[node.module])
                 for told in node.names:
                     self.assertIsNone(told.asname)
                     self.assertIn(told.name, here)
@@ -237,15 +237,50 @@ class TreesTest(unittest.TestCase):
             lines = [node.lineno for node in ast.walk(tree) if isinstance(node, ast.Lambda)]
             self.assertEqual(len(lines), len(set(lines)), name)
 
-    def test_dunders_and_properties_modify_nothing_else(self):
+    def test_operators_and_properties_modify_nothing(self):
         for name, tree in trees():
             for node in ast.walk(tree):
                 if not isinstance(node, ast.FunctionDef):
                     continue
-                if node.decorator_list or node.name in ("__eq__", "__len__", "__add__", "__repr__", "__str__"):
+                if node.name in ("__eq__", "__len__", "__add__", "__repr__", "__str__"):
                     for part in ast.walk(node):
                         self.assertNotIsInstance(part, (ast.Assign, ast.AugAssign, ast.For, ast.While), name)
+                if node.decorator_list or node.name == "__getitem__":
+                    # Local names alone are bound.
+                    stored = [part for part in ast.walk(node) if isinstance(getattr(part, "ctx", None), ast.Store)]
+                    for part in stored:
+                        self.assertIsInstance(part, (ast.Name, ast.Tuple), (name, node.name))
+                    self.assertEqual([part for part in ast.walk(node) if isinstance(part, ast.AugAssign)], [])
                 if node.name == "__init__":
                     self.assertEqual([part for part in ast.walk(node) if isinstance(part, ast.Return)], [])
                 if node.name == "__len__":
                     self.assertEqual(called(node.body[-1].value), "len")
+
+    def test_classes_with_items_are_not_iterated_over(self):
+        for name, tree in trees():
+            for node in ast.walk(tree):
+                if isinstance(node, ast.ClassDef):
+                    methods = {part.name: part for part in node.body if isinstance(part, ast.FunctionDef)}
+                    if "__getitem__" in methods:
+                        self.assertIsInstance(methods["__iter__"].body[0], ast.Raise, name)
+
+    def test_errors_that_are_caught(self):
+        for name, tree in trees():
+            for node in ast.walk(tree):
+                if isinstance(node, ast.ExceptHandler):
+                    self.assertEqual((node.type.id, node.name), ("WindowError", None), name)
+                if isinstance(node, ast.Try):
+                    self.assertEqual((node.orelse, node.finalbody), ([], []), name)
+                if isinstance(node, ast.Raise):
+                    self.assertIsInstance(node.exc, ast.Call, name)
+
+    def test_module_level_lists_and_dicts_are_read_alone(self):
+        for name, tree in trees():
+            names = [node.targets[0].id for node in tree.body if isinstance(node, ast.Assign)
+                     and isinstance(node.value, (ast.Dict, ast.List))]
+            for node, parent in with_parents(tree):
+                if isinstance(node, ast.Name) and node.id in names and isinstance(node.ctx, ast.Load):
+                    is_read = (isinstance(parent, ast.Subscript) and isinstance(parent.ctx, ast.Load)
+                               or isinstance(parent, ast.Attribute) and parent.attr == "get"
+                               or isinstance(parent, ast.Compare))
+                    self.assertTrue(is_read, (name, node.lineno))
