@@ -180,6 +180,6 @@ def check_different_places(names):
 
 
 def check_trail(trail):
-    """Names of places, none of them twice."""
+    """Names, none of them twice."""
     check_names(trail)
     check_different_places(trail)

@@ -1,18 +1,17 @@
 """Houses: places with names, each with a table."""
 
-from listwindow.checks import check_different_places, check_names
+from listwindow.checks import check_trail
 from listwindow.errors import InvalidNumber, UnknownPlace
 
 
 class House:
-    """Places in their order. A house never changes; its methods return houses of their own."""
+    """Places in their order. A house never changes; its methods return houses of their own, and it is where such a
+    house is made that wrong names, and names that another place has, are refused."""
 
     def __init__(self, places):
         if not places:
             raise InvalidNumber(0)
-        names = [name for name, table in places]
-        check_names(names)
-        check_different_places(names)
+        check_trail([name for name, table in places])
         self._places = list(places)
 
     @property
@@ -41,10 +40,9 @@ class House:
         return House(self._places + other._places)
 
     def with_table(self, name, table):
-        check_names([name])
-        if name in self.names:
-            return House([(told, table if told == name else held) for told, held in self._places])
-        return House(self._places + [(name, table)])
+        if name not in self.names:
+            return House(self._places + [(name, table)])
+        return House([(told, table if told == name else held) for told, held in self._places])
 
     def without(self, name):
         _check_known(self, name)
@@ -52,9 +50,6 @@ class House:
 
     def renamed(self, name, other):
         _check_known(self, name)
-        check_names([other])
-        if other != name and other in self.names:
-            raise UnknownPlace(other)
         return House([(other if told == name else told, table) for told, table in self._places])
 
 

@@ -8,7 +8,6 @@ from listwindow.rooms import room_of, turned_by
 
 
 def seen_lines(view, height, scroll):
-    check_height(height)
     lines = view.lines()
     if not 0 <= scroll <= room_of(len(lines), height):
         raise InvalidNumber(scroll)
@@ -123,7 +122,6 @@ def _beyond(spans, scroll):
 
 
 def told_scrolls(view, height, seen):
-    check_height(height)
     lines = view.lines()
     scrolls = list(range(room_of(len(lines), height) + 1))
     return [scroll for scroll in scrolls if _seen(lines, height, scroll) == seen]

@@ -81,4 +81,4 @@ def _visits(trail, places):
 
 
 def _visit(place):
-    return [("visit", place[0])] + _deeds_at(place) + _turns(0, place[-1], 0)
+    return [("visit", place[0])] + _deeds_at(place) + [("turn", place[-1])]

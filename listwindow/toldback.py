@@ -14,14 +14,12 @@ def sortings_for(table, lines):
 
 
 def standings_for(table, height, seen):
-    check_height(height)
     return [(list(sorting), scroll)
             for sorting in sortings(table.width)
             for scroll in told_scrolls(plain_view(table, sorting), height, seen)]
 
 
 def folded_for(table, sorting, lines):
-    check_sorting(table.width, sorting)
     if not sorting:
         raise InvalidSorting([])
     # A group has rows: it is folded if none of them stands behind its head.
@@ -35,15 +33,11 @@ def folded_for(table, sorting, lines):
 def best_click(table, height, scroll, known):
     check_height(height)
     check_number(scroll)
-    _check_known(table, known)
+    for sorting in known:
+        check_sorting(table.width, sorting)
     if not known:
         return None
     return min(list(range(table.width)), key=lambda column: _most_alike(table, height, scroll, known, column))
-
-
-def _check_known(table, known):
-    for sorting in known:
-        check_sorting(table.width, sorting)
 
 
 def _most_alike(table, height, scroll, known, column):
@@ -54,12 +48,10 @@ def _most_alike(table, height, scroll, known, column):
 
 
 def clicks_to_one(table, known):
-    _check_known(table, known)
     return _first_clicks(table, known, _are_one)
 
 
 def told_apart(table, known):
-    _check_known(table, known)
     clicks = _first_clicks(table, known, _are_apart)
     return None if clicks is None or len(clicks) > 4 else clicks
 

@@ -29,8 +29,8 @@ def check_visit_form(form):
 
 def is_visit_form(form):
     first, entries = form
-    if first is None or not entries:
-        return first is None and not entries
+    if first is None:
+        return not entries
     exits = dict(entries)
     places = [place for place, onward in entries]
     known = first in exits and all([onward in exits for place, onward in entries])

@@ -231,6 +231,13 @@ class ApartTest(unittest.TestCase):
         self.assertEqual(scripts_apart([("visit", "a"), ("only", 3, 1, 1)], [("visit", "a")]), ("only", "a", 3))
         self.assertEqual(scripts_apart([("only", 2, 1, 1), ("only", 1, 0, 0)], [("only", 2, 1, 2), ("only", 1, 0, 0)]),
                          ("only", None, 2))
+        # The first column, whether both have a deed on it or only the one or the other.
+        for one, other, column in (([1, 3], [], 1), ([], [3, 2], 2), ([1], [0], 0), ([0], [1], 0), ([2], [1, 2], 1),
+                                   ([4, 2, 1], [1], 2), ([0, 3], [0, 5], 3)):
+            told = [[("only", at, 1, 1) for at in some] for some in (one, other)]
+            self.assertEqual(scripts_apart(*told), ("only", None, column))
+        self.assertEqual(scripts_apart([("only", 2, 1, 1), ("only", 1, 1, 1)], [("only", 2, 0, 1), ("only", 1, 1, 2)]),
+                         ("only", None, 1))
         self.assertEqual(scripts_apart([("visit", "a")], [("visit", "b"), ("visit", "a")]), ("visit", []))
         # One form of the sorting, another one of the first click: they part where this column was sorted last.
         self.assertEqual(scripts_apart([("sort", 1), ("sort", 0), ("sort", 1)], [("sort", 0), ("sort", 1)]),

@@ -161,7 +161,14 @@ class StopsTest(unittest.TestCase):
                 self.assertEqual(stops(view, height), lists[0] if lists else None)
 
     def test_errors(self):
-        self.assertEqual(error_of(stops, example_view(), 0), (InvalidNumber, 0))
+        for view in (example_view(), view_of(empty_table())):
+            for height in (0, -1):
+                self.assertEqual(error_of(stops, view, height), (InvalidNumber, height))
+                self.assertEqual(error_of(fewest_scrolls, view, height, []), (InvalidNumber, height))
+                self.assertEqual(error_of(never_together, view, height, []), (InvalidNumber, height))
+                self.assertEqual(error_of(fewest_to_see, view, height, []), (InvalidNumber, height))
+                self.assertEqual(error_of(told_starts, view, height, [], [[]]), (InvalidNumber, height))
+                self.assertEqual(error_of(told_scrolls, view, height, []), (InvalidNumber, height))
 
 
 class ToldTest(unittest.TestCase):

@@ -158,6 +158,9 @@ class KnownTest(unittest.TestCase):
     def test_errors(self):
         for wrong in ([(2, 1)], [(0, 1), (0, -1)], [(0, 0)], [(-1, 1)]):
             known = [[(0, 1)], wrong, [(9, 9)]]
+            self.assertEqual(error_of(best_click, empty_table(), 1, 0, [wrong]), (InvalidSorting, wrong))
+            self.assertEqual(error_of(clicks_to_one, empty_table(), [wrong]), (InvalidSorting, wrong))
+            self.assertEqual(error_of(told_apart, empty_table(), [wrong]), (InvalidSorting, wrong))
             self.assertEqual(error_of(best_click, TABLE, 0, -1, known), (InvalidNumber, 0))
             self.assertEqual(error_of(best_click, TABLE, 1, -1, known), (InvalidNumber, -1))
             self.assertEqual(error_of(best_click, TABLE, 1, 0, known), (InvalidSorting, wrong))

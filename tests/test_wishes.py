@@ -309,6 +309,9 @@ class ErrorsTest(unittest.TestCase):
                 self.assertEqual(error_of(plan, house, 3, 0, [], order, marks), (InvalidMarks, marks))
                 self.assertEqual(error_of(judge_plan, house, 3, 0, [], order, marks, [("turn",)]), (InvalidMarks, marks))
             self.assertEqual(error_of(least_marked_lines, house, 3, 0, [], marks), (InvalidMarks, marks))
+            # Also if no sorting shows the order.
+            self.assertEqual(error_of(plan, house, 3, 0, [], [3, 0, 1, 2, 4], marks), (InvalidMarks, marks))
+        self.assertIsNone(plan(house, 3, 0, [], [3, 0, 1, 2, 4], [0]))
 
     def test_filters_stay(self):
         # What is asked for changes no window.
