@@ -8,6 +8,7 @@ from listwindow.rooms import room_of, turned_by
 
 
 def seen_lines(view, height, scroll):
+    check_height(height)
     lines = view.lines()
     if not 0 <= scroll <= room_of(len(lines), height):
         raise InvalidNumber(scroll)

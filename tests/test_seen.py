@@ -100,7 +100,9 @@ class SeenLinesTest(unittest.TestCase):
     def test_errors(self):
         view = example_view()
         for height in (0, -1, -GREAT):
-            self.assertEqual(error_of(seen_lines, view, height, 99), (InvalidNumber, height))
+            for scroll in (-1, -GREAT, 0, 1, 99):
+                self.assertEqual(error_of(seen_lines, view, height, scroll), (InvalidNumber, height))
+                self.assertEqual(error_of(seen_lines, scroll=scroll, height=height, view=view), (InvalidNumber, height))
         for scroll in (-1, 3, GREAT):
             self.assertEqual(error_of(seen_lines, view, 3, scroll), (InvalidNumber, scroll))
         self.assertEqual(error_of(seen_lines, view, 5, 1), (InvalidNumber, 1))
