@@ -1,4 +1,4 @@
-"""Comparing cells."""
+"""Comparing cells, and lists of values."""
 
 
 def compared(one, other):
@@ -6,3 +6,8 @@ def compared(one, other):
     if one == other:
         return 0
     return 1 if one > other else -1
+
+
+def apart(one, other):
+    """The values, ascending, that stand in just one of two lists."""
+    return sorted([value for value in one if value not in other] + [value for value in other if value not in one])

@@ -1,6 +1,7 @@
 """The forms of deeds on groups: what they do to the folded values of all views with the same groups."""
 
 from listwindow.checks import check_different_values, check_words
+from listwindow.comparing import apart
 from listwindow.errors import InvalidValue
 
 
@@ -33,12 +34,7 @@ def formed_folds(values, form, folded):
 def _formed(values, form, folded):
     kept, others, turned = form
     left = [value for value in folded if (kept if value in values else others)]
-    return _apart(left, turned)
-
-
-def _apart(one, other):
-    """The values that stand in just one of two lists, ascending."""
-    return sorted([value for value in one if value not in other] + [value for value in other if value not in one])
+    return apart(left, turned)
 
 
 def _check_form(values, form):
@@ -85,7 +81,7 @@ def _deeds_by(values, form, one):
     strangers = [value for value in turned if value not in values]
     folded = [value for value in values if value != one]
     others_turned = [value for value in turned if value in values]
-    return ahead + _folds(strangers) + [("one", one)] + _folds(_apart(folded, others_turned))
+    return ahead + _folds(strangers) + [("one", one)] + _folds(apart(folded, others_turned))
 
 
 def _folds(values):

@@ -29,7 +29,8 @@ NODES = (ast.Module, ast.Expr, ast.Constant, ast.ImportFrom, ast.alias, ast.Func
          ast.Add, ast.Sub, ast.Mult, ast.FloorDiv, ast.Mod, ast.Try, ast.ExceptHandler, ast.JoinedStr,
          ast.FormattedValue)
 AT_ONCE = ("list", "tuple", "dict", "sorted", "sum", "any", "all", "enumerate", "zip", "min", "max")
-LIBRARY = {"math": ("gcd", "lcm", "isqrt", "comb", "perm", "factorial")}
+LIBRARY = {"math": ("gcd", "lcm", "isqrt", "comb", "perm", "factorial"),
+           "heapq": ("heapify", "heappop", "heappush", "heappushpop", "heapreplace")}
 KEYWORDS = {"sorted": ("key", "reverse"), "min": ("key", "default"), "max": ("key", "default"),
             "sum": ("start",), "enumerate": ("start",), "zip": ("strict",)}
 

@@ -10,7 +10,7 @@ from listwindow.scripts import standing_after
 from listwindow.standings import comes_about, script_to
 from listwindow.tables import Table
 from tests.support import all_lists, all_sortings, error_of, random_table, sublists
-from tests.window_model import chances, is_possible, random_house, random_script, standing_by
+from tests.window_model import chances, is_possible, least_costs, random_house, random_script, standing_by
 
 GREAT = 10 ** 30 - 1
 MOST = 10 ** 60 - 1
@@ -196,6 +196,93 @@ class StandingsTest(unittest.TestCase):
             told = (house.names[:1 + number % 2], places, chance.choice([0, 1, GREAT]))
             self.assert_comes_about(house, 3, GREAT, told)
             self.assert_comes_about(house, GREAT, GREAT, (told[0], [place[:6] + (0,) for place in places], told[2]))
+
+    def assert_farthest(self, house, height, told, farthest):
+        """The page can be scrolled so far, and no farther, by a script of 60 deeds; by longer ones it can."""
+        trail, places = told
+        for page in (farthest, farthest - GREAT // 3):
+            self.assert_comes_about(house, height, MOST, (trail, places, page))
+        for page in (farthest + 1, 60 * GREAT + 1, 10 ** 40, MOST):
+            self.assertIsNone(script_to(house, height, MOST, (trail, places, page)), told)
+            self.assertTrue(comes_about(house, height, MOST, (trail, places, page)))
+        self.assert_never(house, height, farthest - 1, (trail, places, farthest))
+
+    def test_pages_beyond_one_turn(self):
+        for page in (GREAT - 1, GREAT, GREAT + 1, 10 ** 31, 40 * GREAT + 7):
+            for scroll in (0, 1):
+                there = (["all"], [("all", [], [(None, None)], [[]], [], None, scroll)], page)
+                self.assert_comes_about(house_of(), 1, MOST, there)
+                self.assert_comes_about(house_of(), 1, page, there)
+            trail, places, _ = standing()
+            self.assert_comes_about(two_places(), 2, MOST, (trail, places, page))
+            self.assert_comes_about(two_places(), 2, MOST, (["all"], places, page))
+
+    def test_the_farthest_pages_of_one_place(self):
+        rising = House([("all", Table(1, [[1], [2], [3], [4]]))])
+        wavering = House([("all", Table(1, [[1], [2], [1], [2], [1], [2]]))])
+        both = House([("all", Table(2, [[1, 5], [2, 6]]))])
+        for house, height, place, farthest in (
+                (house_of(), 1, ([], [(None, None)], [[]], [], None, 1), 60 * GREAT - 1),
+                (house_of(), 1, ([], [(None, None)], [[]], [], None, 0), 59 * GREAT - 1),
+                (house_of(), 2, ([], [(None, None)], [[]], [], None, 0), 60 * GREAT),
+                # Filters, and folds, that leave no room on the way, or just as much as is wanted.
+                (house_of(), 1, ([], [(3, None)], [[]], [], None, 0), 59 * GREAT),
+                (house_of(), 1, ([(0, 1)], [(None, None)], [[1, 2]], [], None, 1), 57 * GREAT - 1),
+                (house_of(), 1, ([(0, 1)], [(None, None)], [[1]], [], None, 1), 58 * GREAT - 1),
+                (house_of(), 1, ([(0, 1)], [(None, None)], [[1]], [], None, 0), 57 * GREAT - 1),
+                # One deed folds three values, and a range click marks two rows more.
+                (rising, 9, ([(0, 1)], [(None, None)], [[1, 2, 3]], [], None, 0), 58 * GREAT),
+                (rising, 9, ([(0, 1)], [(None, None)], [[1, 2, 7]], [], None, 0), 56 * GREAT),
+                (rising, 9, ([(0, 1)], [(None, 3)], [[1, 2]], [], None, 0), 57 * GREAT),
+                (rising, 9, ([], [(None, None)], [[]], [0, 1, 2], 0, 0), 58 * GREAT),
+                (wavering, 9, ([], [(None, 1)], [[]], [0, 2, 4], 4, 0), 57 * GREAT),
+                (wavering, 9, ([(0, 1)], [(None, None)], [[]], [0, 2, 4], 0, 0), 57 * GREAT),
+                # Each column is that of the first key when its values, those that are no cells too, are folded.
+                (both, 9, ([(0, 1), (1, -1)], [(None, None)] * 2, [[1, 7], [5, 8, 9]], [], None, 0), 52 * GREAT),
+                (both, 9, ([(1, 1)], [(None, None)] * 2, [[], [7]], [], 1, 0), 56 * GREAT)):
+            self.assert_farthest(house, height, (["all"], [("all",) + place]), farthest)
+
+    def test_the_farthest_pages_of_two_places(self):
+        house = House([("all", Table(1, [[2], [1]])), ("few", Table(1, [[7]]))])
+        plain = {scroll: ("all", [], [(None, None)], [[]], [], None, scroll) for scroll in (0, 1)}
+        few = ("few", [], [(None, None)], [[]], [], None, 0)
+        many = ("few", [(0, 1)], [(None, None)], [[]], [0], 0, 1)
+        for trail, places, farthest in (
+                # At a place with a scroll of 0 the page is scrolled at best, if one goes there in any case.
+                (["all"], [plain[0], few], 59 * GREAT - 1),
+                (["all", "few"], [plain[0], few], 59 * GREAT),
+                (["all"], [plain[1], few], 60 * GREAT - 1),
+                (["all", "few"], [plain[1], few], 59 * GREAT - 1),
+                (["all", "few"], [plain[1], many], 57 * GREAT - 2),
+                (["all"], [plain[1], many], 56 * GREAT - 2),
+                (["all"], [plain[0], many], 56 * GREAT - 1)):
+            self.assert_farthest(house, 1, (trail, places), farthest)
+
+    def test_the_farthest_pages_of_all_standings(self):
+        chance = random.Random(3)
+        bounds = [(None, None), (5, 4), (0, 0), (1, None)]
+        deeds = [("sort", 0), ("all",)] + [(word, value) for word in ("fold", "one") for value in (0, 1, 2)]
+        deeds += [("only", 0, low, high) for low, high in bounds]
+        few = [("sort", 0), ("fold", 0), ("fold", 9), ("only", 0, 5, 4)]
+        wide = [("sort", 1), ("only", 1, 0, 0), ("only", 1, None, None)]
+        for house, height, told, most in (
+                (House([("a", Table(1, [[2], [0], [1]]))]), 2, deeds, 8),
+                (House([("a", Table(1, [[1], [0], [1]]))]), 1, deeds, 8),
+                (House([("a", Table(2, [[0, 1], [0, 0]]))]), 2, deeds + wide, 7),
+                (House([("a", Table(1, [[0], [1]])), ("b", Table(1, [[0]]))]), 1, few, 7)):
+            costs = least_costs(house, height, told, most)
+            for trail, places in chance.sample(sorted(costs, key=str), 100):
+                parts = [(name, *[list(part) for part in place[:2]], [list(folded) for folded in place[2]],
+                          list(place[3]), *place[4:]) for name, place in zip(house.names, places)]
+                self.assert_farthest(house, height, (list(trail), parts), 60 * GREAT - costs[trail, places])
+
+    def test_more_places_than_there_are(self):
+        # Somewhat beyond the limits: a plain script is longer than 60 deeds, the page being near all the same.
+        house = House([(name, Table(2, [[1, 1], [2, 2], [3, 3]])) for name in ("a", "b", "c", "d")])
+        place = ([(0, -1), (1, -1)], [(1, 3), (1, 3)], [[1, 2], [1, 3]], [0, 1, 2], 1)
+        for trail, scroll, page in itertools.product((["a"], ["a", "c"], ["a", "b", "c", "d"]), (0, 2), (0, 1, 5)):
+            told = (trail, [(name,) + place + (scroll,) for name in house.names], page)
+            self.assert_comes_about(house, 2, 5, told)
 
     def test_errors(self):
         for call in (comes_about, script_to):

@@ -1,5 +1,6 @@
 """A window as [17], [19], [20], [22] and [23] tell it, deed by deed, and what the tests of windows and scripts share."""
 
+import heapq
 import itertools
 import random
 
@@ -156,3 +157,59 @@ def is_possible(house, script):
 
 def chances(number):
     return [random.Random(seed) for seed in range(number)]
+
+
+LONGEST = 10 ** 30 - 1
+
+
+def least_costs(house, height, deeds, most):
+    """What it costs at least, up to so many deeds, to lead to all but the page of a standing, the page being scrolled.
+
+    A turn that scrolls the page costs what the window takes, each other deed a longest turn: so much less than by 60
+    longest turns the page can be scrolled. All deeds out of some are tried at each place, all clicks, all turns of the
+    window alone, and all visits."""
+    names = house.names
+    places = tuple(((), ((None, None),) * house[name].width, ((),) * house[name].width, (), None, 0) for name in names)
+    costs = {((names[0],), places, False): 0}
+    queue, known, views = [(0, 0, ((names[0],), places, False))], {}, [{} for _ in names]
+    while queue:
+        cost, _, (trail, places, scrolled) = heapq.heappop(queue)
+        if cost > costs[trail, places, scrolled]:
+            continue
+        at = names.index(trail[-1])
+        if (at, places[at]) not in known:
+            known[at, places[at]] = _priced_steps(house[names[at]], height, deeds, places[at], views[at])
+        steps = [(added, (trail, places[:at] + (place,) + places[at + 1:], scrolled or now))
+                 for added, now, place in known[at, places[at]]]
+        steps += [(LONGEST, (tuple(visit_by(list(trail), name)), places, scrolled)) for name in names]
+        for added, behind in steps:
+            if cost + added < costs.get(behind, (most + 1) * LONGEST):
+                costs[behind] = cost + added
+                heapq.heappush(queue, (cost + added, len(costs), behind))
+    return {state[:2]: cost for state, cost in costs.items() if state[2]}
+
+
+def _priced_steps(table, height, deeds, place, views):
+    """What one deed at a place can do: what it costs, whether the page is scrolled, and the place behind it."""
+    view, (marks, anchor, scroll) = place[:3], place[3:]
+    if view not in views:
+        views[view] = _view_steps(table, height, deeds, view)
+    there, room, behind = views[view]
+    steps = [(room - scroll, True, place[:5] + (room,))]
+    steps += [(LONGEST, False, place[:5] + (other,)) for other in range(room + 1)]
+    for click in itertools.product(("click", "range"), range(len(there))):
+        made, last = mark_all(there, marks, anchor, [click])
+        steps.append((LONGEST, False, view + (tuple(made), last, scroll)))
+    return steps + [(LONGEST, False, told + (marks, anchor, min(scroll, most))) for told, most in behind]
+
+
+def _view_steps(table, height, deeds, view):
+    """The open rows of a view, its room, and the views behind deeds, each with its room."""
+    lines = Model(table, *view).lines()
+    behind = []
+    for deed in deeds:
+        model = Model(table, *view)
+        model.do(deed)
+        folds = tuple(tuple(sorted(values)) for values in model.folds)
+        behind.append(((tuple(model.sorting), tuple(model.filters), folds), room_by(model.lines(), height)))
+    return [line[1] for line in lines if line[0] == "row"], room_by(lines, height), behind
