@@ -57,13 +57,13 @@ def _way_to(state, steps):
 def _further(views, marks, scroll, state):
     """What can be done next in a state: tuples of what it costs, the deeds, and the state behind them."""
     view, marking, there = state
-    rows = views.open_rows(view)
-    changed = [([deed], (behind, marking, min(there, views.room(behind)))) for deed, behind in views.steps(view)]
+    rows = views.open_rows_of(view)
+    changed = [([deed], (behind, marking, min(there, views.room_at(behind)))) for deed, behind in views.steps(view)]
     clicked = [([click], (view, behind, there)) for click, behind in marks.clicks(rows, marking)]
     steps = [(LONGEST, deeds, behind) for deeds, behind in changed + clicked]
     if there == -1:
         # One moment is enough for all turns that scroll the page.
-        room = views.room(view)
+        room = views.room_at(view)
         steps.append((room, [("down", room)], (view, marking, room)))
     if (view, marking) == (views.wanted, marks.wanted):
         steps.append(_ending(scroll, there))

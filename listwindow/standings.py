@@ -27,7 +27,7 @@ def _plain_script(house, height, room, standing):
     check_window(height, room)
     trail, places, page = standing
     first = first_moment(house)
-    if trail[:1] != house.names[:1] or not _fit(house, places):
+    if not _fit(house, places):
         return None
     deeds = [_deeds_at(place) for place in places]
     before = moment_behind(first, height, room, deeds[0])

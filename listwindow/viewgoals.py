@@ -42,24 +42,24 @@ class ViewGoal:
                 told = _folded_late(told, column, values)
         return told
 
-    def lines(self, view):
+    def lines_of(self, view):
         if view not in self._lines:
             sorting, filters, folds = self._numbers.key_of(view)
             told = View(self._table, list(sorting), list(filters), [list(folded) for folded in folds])
             self._lines[view] = told.lines()
         return self._lines[view]
 
-    def open_rows(self, view):
-        return tuple([line[1] for line in self.lines(view) if line[0] == "row"])
+    def open_rows_of(self, view):
+        return tuple([line[1] for line in self.lines_of(view) if line[0] == "row"])
 
-    def room(self, view):
-        return room_of(len(self.lines(view)), self._height)
+    def room_at(self, view):
+        return room_of(len(self.lines_of(view)), self._height)
 
     def steps(self, view):
         """The deeds behind which a view differs and can still become the wanted one, each with the view behind it."""
         if view not in self._steps:
             key = self._numbers.key_of(view)
-            found = self._sorts(key) + self._onlys(key) + self._foldings(key, self.lines(view))
+            found = self._sorts(key) + self._onlys(key) + self._foldings(key, self.lines_of(view))
             steps = [(deed, self._numbers.number_of(behind)) for deed, behind in found]
             self._steps[view] = [(deed, behind) for deed, behind in steps
                                  if behind != view and self.needed(behind) is not None]

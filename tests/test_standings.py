@@ -142,7 +142,7 @@ class StandingsTest(unittest.TestCase):
         wrong = [
             (1, [[], [(0, 1)], [(1, 1)], [(0, 1), (0, 1)], [(1, -1), (2, 1)], [(-1, 1), (0, 1)], [(1, 0), (0, 1)],
                  [(1, -1), (0, 1), (1, 1)], [(1, 2), (0, 1)]]),
-            (2, [[], [(None, None)], [(None, None)] * 3]),
+            (2, [[], [(None, None)], [(None, None)] * 3, [(None, None), (1, None), (0, 0)]]),
             (3, [[], [[1, 9]], [[1, 9], [-4], []], [[9, 1], [-4]], [[1, 1], [-4]], [[1, 9, 9], [-4]]]),
             (4, [[2, 0], [0, 0], [3], [-1], [0, 3], [-1, 0]]),
             (5, [None, 3, -1, MOST]),
@@ -242,6 +242,27 @@ class StandingsTest(unittest.TestCase):
                 (both, 9, ([(1, 1)], [(None, None)] * 2, [[], [7]], [], 1, 0), 56 * GREAT)):
             self.assert_farthest(house, height, (["all"], [("all",) + place]), farthest)
 
+    def test_the_farthest_pages_with_other_filters_on_the_way(self):
+        for cells, height, place, farthest in (
+                # Filters that leave no room, and filters between which one deed folds three of six values.
+                ([[7], [7]], 1, ([], [(None, 9)], [[]], [], None, 0), 58 * GREAT),
+                ([[3], [0], [3], [0]], 1, ([(0, 1)], [(None, 9)], [[0, 3]], [], None, 0), 55 * GREAT),
+                ([[0, 1], [2, 1], [2, 1], [1, 0]], 2, ([], [(None, 9), (0, 1)], [[], []], [], 1, 0), 55 * GREAT),
+                ([[1], [2], [3], [4], [5], [6]], 20, ([(0, 1)], [(None, 9)], [[1, 2, 3]], [], None, 0), 56 * GREAT),
+                # A room that is just as great as the scroll is on the way alone.
+                ([[0], [3], [0], [3]], 2, ([(0, 1)], [(None, 9)], [[]], [0], 0, 1), 56 * GREAT - 1),
+                # Range clicks among other rows, and in another order, than those at last.
+                ([[0], [2], [0], [1]], 4, ([], [(1, 1)], [[]], [0, 2, 3], 2, 0), 56 * GREAT),
+                ([[1], [1], [3], [0], [1], [3]], 5, ([(0, 1)], [(0, 3)], [[3]], [0, 1, 2, 4, 5], 1, 1), 54 * GREAT - 1),
+                ([[0, 2], [0, 1], [2, 2], [2, 1]], 9,
+                 ([(0, 1)], [(None, None), (1, None)], [[0, 2], []], [0, 2, 3], 0, 0), 53 * GREAT),
+                ([[0, 0], [2, 0], [1, 1], [0, 0]], 5,
+                 ([(0, 1), (1, -1)], [(None, 9), (None, None)], [[], []], [0, 2, 3], 0, 1), 54 * GREAT - 1),
+                ([[1, 1], [2, 0], [2, 0], [2, 2]], 3,
+                 ([(1, 1), (0, 1)], [(2, 2), (1, 2)], [[1, 2], [0, 1, 2]], [0, 1, 3], 1, 0), 49 * GREAT)):
+            house = House([("all", Table(len(cells[0]), cells))])
+            self.assert_farthest(house, height, (["all"], [("all",) + place]), farthest)
+
     def test_the_farthest_pages_of_two_places(self):
         house = House([("all", Table(1, [[2], [1]])), ("few", Table(1, [[7]]))])
         plain = {scroll: ("all", [], [(None, None)], [[]], [], None, scroll) for scroll in (0, 1)}
@@ -269,6 +290,7 @@ class StandingsTest(unittest.TestCase):
                 (House([("a", Table(1, [[2], [0], [1]]))]), 2, deeds, 8),
                 (House([("a", Table(1, [[1], [0], [1]]))]), 1, deeds, 8),
                 (House([("a", Table(2, [[0, 1], [0, 0]]))]), 2, deeds + wide, 7),
+                (House([("a", Table(1, [[2], [1], [2], [0], [2]]))]), 9, deeds[:1] + deeds[-4:], 6),
                 (House([("a", Table(1, [[0], [1]])), ("b", Table(1, [[0]]))]), 1, few, 7)):
             costs = least_costs(house, height, told, most)
             for trail, places in chance.sample(sorted(costs, key=str), 100):
@@ -276,13 +298,18 @@ class StandingsTest(unittest.TestCase):
                           list(place[3]), *place[4:]) for name, place in zip(house.names, places)]
                 self.assert_farthest(house, height, (list(trail), parts), 60 * GREAT - costs[trail, places])
 
-    def test_more_places_than_there_are(self):
-        # Somewhat beyond the limits: a plain script is longer than 60 deeds, the page being near all the same.
-        house = House([(name, Table(2, [[1, 1], [2, 2], [3, 3]])) for name in ("a", "b", "c", "d")])
-        place = ([(0, -1), (1, -1)], [(1, 3), (1, 3)], [[1, 2], [1, 3]], [0, 1, 2], 1)
-        for trail, scroll, page in itertools.product((["a"], ["a", "c"], ["a", "b", "c", "d"]), (0, 2), (0, 1, 5)):
+    def test_somewhat_more_places(self):
+        # A plain script is longer than 60 deeds here, though the page is near.
+        house = House([(name, Table(2, [[1, 1], [2, 2], [3, 3]])) for name in ("a", "b", "c", "d", "e")])
+        place = ([(0, -1), (1, -1)], [(1, 3), (1, 3)], [[1, 2], [1, 3]], [0, 1, 2], 0)
+        for trail, scroll, page in itertools.product((["a"], ["a", "c"], house.names), (0, 2), (0, 1, 5)):
             told = (trail, [(name,) + place + (scroll,) for name in house.names], page)
             self.assert_comes_about(house, 2, 5, told)
+        # One visits a place, goes back to the first one, and on to the last one.
+        house = House([(name, Table(1, [])) for name in ("a", "b", "c")])
+        places = [(name, [], [(None, None)], [[]], [], None, 0) for name in house.names]
+        places[1] = ("b", [(0, 1)], [(None, None)], [[]], [], None, 0)
+        self.assert_farthest(house, 1, (["a", "c"], places), 56 * GREAT)
 
     def test_errors(self):
         for call in (comes_about, script_to):
